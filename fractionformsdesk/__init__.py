@@ -1,0 +1,1 @@
+"""Forms over the fractions."""
