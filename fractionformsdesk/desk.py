@@ -1,12 +1,15 @@
 """The desk: a list of calls about two forms, and what is answered to each."""
 
 from fractionformsdesk.forms import (
-    Form, class_of, count_above, count_below, has_zero, has_zero_at, primes_with_minus, symbol_of)
+    Form, class_of, count_above, count_below, has_zero, has_zero_at, makes, makes_at, primes_with_minus, symbol_of,
+    value_at, why_not_alike)
 from fractionformsdesk.primes import is_place
+from fractionformsdesk.search import first_row
 from fractionformsdesk.squares import determinant, table_of
 
 MOST_UNKNOWNS = 4
 GREATEST_NUMBER = 10
+GREATEST_ASKED = 1000
 
 
 class NotTaken(ValueError):
@@ -15,6 +18,10 @@ class NotTaken(ValueError):
 
 class NoDeterminant(ValueError):
     """Refusal -3: the determinant is 0."""
+
+
+class NoRow(ValueError):
+    """Refusal -8: there's no row that is small enough."""
 
 
 class Desk:
@@ -50,13 +57,17 @@ class Reader:
 # Whoever reads a call reads the whole of it before refusing, or the next call would begin within it.
 
 
+def check_sizes(numbers, greatest):
+    if any([abs(number) > greatest for number in numbers]):
+        raise NotTaken()
+
+
 def read_form(reader):
     n = reader.read_number()
     numbers = reader.read_row()
     if n < 1 or n > MOST_UNKNOWNS or len(numbers) != n * (n + 1) // 2:
         raise NotTaken()
-    if any([abs(number) > GREATEST_NUMBER for number in numbers]):
-        raise NotTaken()
+    check_sizes(numbers, GREATEST_NUMBER)
     rows = table_of(n, numbers)
     if determinant(rows) == 0:
         raise NoDeterminant()
@@ -68,6 +79,12 @@ def read_place(reader):
     if not is_place(place):
         raise NotTaken()
     return place
+
+
+def check_made(t):
+    check_sizes([t], GREATEST_ASKED)
+    if t == 0:
+        raise NotTaken()
 
 
 def answer_form(desk, reader):
@@ -100,6 +117,41 @@ def answer_zero_at(desk, reader):
     return [1 if has_zero_at(desk.this_form, place) else 0]
 
 
+def answer_makes(desk, reader):
+    t = reader.read_number()
+    check_made(t)
+    return [1 if makes(desk.this_form, t) else 0]
+
+
+def answer_makes_at(desk, reader):
+    t = reader.read_number()
+    place = read_place(reader)
+    check_made(t)
+    return [1 if makes_at(desk.this_form, t, place) else 0]
+
+
+def answer_alike(desk, reader):
+    why = why_not_alike(desk.this_form, desk.other_form)
+    return [0] + why if why else [1]
+
+
+def answer_found(desk, reader):
+    t = reader.read_number()
+    check_sizes([t], GREATEST_ASKED)
+    row = first_row(desk.this_form, t)
+    if row is None:
+        raise NoRow()
+    return [0] + row
+
+
+def answer_value(desk, reader):
+    row = reader.read_row()
+    if len(row) != desk.this_form.n:
+        raise NotTaken()
+    check_sizes(row, GREATEST_ASKED)
+    return [0, value_at(desk.this_form, row)]
+
+
 ANSWER_BY_NUMBER = {
     0: answer_form,
     1: answer_other,
@@ -107,6 +159,11 @@ ANSWER_BY_NUMBER = {
     3: answer_symbol,
     4: answer_zero,
     5: answer_zero_at,
+    6: answer_makes,
+    7: answer_makes_at,
+    8: answer_alike,
+    9: answer_found,
+    10: answer_value,
 }
 
 
@@ -119,6 +176,8 @@ def answer_call(desk, reader):
         return [-1]
     except NoDeterminant:
         return [-3]
+    except NoRow:
+        return [-8]
 
 
 def answers(calls):

@@ -1,7 +1,7 @@
-"""A form, what stays of it, and its zeros."""
+"""A form, its numbers, what stays of it, its zeros, and what it makes."""
 
 from fractionformsdesk.primes import prime_divisors, without_squares
-from fractionformsdesk.squares import determinant, diagonal_of
+from fractionformsdesk.squares import determinant, diagonal_of, with_square
 from fractionformsdesk.symbols import is_square_at, symbol_of_two
 
 
@@ -13,6 +13,14 @@ class Form:
         self.rows = rows
         self.determinant = determinant(rows)
         self.diagonal = diagonal_of(rows)
+
+
+def value_at(form, row):
+    """The form's number at a row of n numbers."""
+    total = 0
+    for line, x in zip(form.rows, row):
+        total += x * sum([m * y for m, y in zip(line, row)])
+    return total
 
 
 def class_of(form):
@@ -62,8 +70,9 @@ def has_zero_at_prime(form, prime):
         return is_square_at(-form.determinant, prime)
     if form.n == 3:
         return symbol_of(form, prime) == symbol_of_two(-1, -form.determinant, prime)
-    if is_square_at(form.determinant, prime):
+    if form.n == 4 and is_square_at(form.determinant, prime):
         return symbol_of(form, prime) == symbol_of_two(-1, -1, prime)
+    # With five unknowns, as where one is put to four, there's always one.
     return True
 
 
@@ -79,3 +88,27 @@ def has_zero(form):
     # Where there's a zero at every place there's one of whole numbers. The primes that aren't asked
     # speak against none: with n 2, where all that are asked have one, the determinant is minus a square.
     return all([has_zero_at(form, place) for place in [0] + primes_to_ask(form)])
+
+
+def makes_at(form, t, place):
+    """Whether the form makes t, which isn't 0, at a place."""
+    # At 0 too: the sign of - t is the other one, so there's a zero just if some ai has t's.
+    return has_zero_at(Form(with_square(form.rows, -t)), place)
+
+
+def makes(form, t):
+    """Whether the form is t, which isn't 0, times a square but 0 at some row of whole numbers."""
+    # A zero whose y is 0 is one of the form itself, and a form that has one makes every number.
+    return has_zero(Form(with_square(form.rows, -t)))
+
+
+def why_not_alike(first, second):
+    """What tells two forms apart: which of the things that stay, and of the symbols the least prime; [] if nothing."""
+    if first.n != second.n:
+        return [1]
+    if class_of(first) != class_of(second):
+        return [2]
+    if count_above(first) != count_above(second):
+        return [3]
+    primes = sorted(set(primes_with_minus(first)) ^ set(primes_with_minus(second)))
+    return [4, primes[0]] if primes else []

@@ -13,6 +13,11 @@ def table_of(n, numbers):
     return rows
 
 
+def with_square(rows, a):
+    """A form's rows when a y y is put to it, y being a new last unknown."""
+    return [row + [0] for row in rows] + [[0] * len(rows) + [a]]
+
+
 def without_row_and_column(rows, column):
     """The rows but the first, each without one column."""
     return [row[:column] + row[column + 1:] for row in rows[1:]]

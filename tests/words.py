@@ -2,6 +2,7 @@
 
 from fractions import Fraction
 from itertools import product
+from math import isqrt
 
 from fractionformsdesk.desk import answers
 
@@ -30,6 +31,26 @@ def zero_at(p):
     return [5, p]
 
 
+def makes(t):
+    return [6, t]
+
+
+def makes_at(t, p):
+    return [7, t, p]
+
+
+def alike():
+    return [8]
+
+
+def found(t):
+    return [9, t]
+
+
+def value(numbers):
+    return [10, len(numbers)] + list(numbers)
+
+
 def ask(*calls):
     """Each call's answer, as a list of its own."""
     given = answers([number for call in calls for number in call])
@@ -41,6 +62,16 @@ def ask(*calls):
         position += 1 + size
     assert position == len(given), given
     return split
+
+
+def ask_of(start, calls, most=25):
+    """Each call's answer behind one that is taken, in as many lists as that needs, of at most so many calls."""
+    given = []
+    for first in range(0, len(calls), most):
+        part = ask(start, *calls[first:first + most])
+        assert part[0] == [0], start
+        given += part[1:]
+    return given
 
 
 def slant(*numbers):
@@ -166,3 +197,66 @@ def zero_up_to(rows, size):
         if any(row) and value_at(rows, row) == 0:
             return row
     return None
+
+
+def put_to(rows, t):
+    """The form with - t y y put to it."""
+    return [line + [0] for line in rows] + [[0] * len(rows) + [-t]]
+
+
+def primes_of(number):
+    """The primes that divide a number."""
+    return [p for p in range(2, abs(number) + 1) if number % p == 0 and all(p % k for k in range(2, p))]
+
+
+def primes_that_matter(rows):
+    """2 and the primes that divide some ai: where none does, every symbol is 1."""
+    return sorted({2}.union(*[primes_of(a) for a in diagonal(rows)]))
+
+
+def signs(rows):
+    """How many ai are above 0, and how many below."""
+    above = len([a for a in diagonal(rows) if a > 0])
+    return above, len(rows) - above
+
+
+def is_made_up_to(rows, t, size):
+    """Whether the form is t times a square but 0 at some row whose numbers' sizes are at most size."""
+    for row in product(range(size + 1), *[range(-size, size + 1)] * (len(rows) - 1)):
+        times, rest = divmod(value_at(rows, row), t)
+        if rest == 0 and times > 0 and isqrt(times) ** 2 == times:
+            return True
+    return False
+
+
+def is_made_at(rows, t, p):
+    if p == 0:
+        return signs(rows)[0 if t > 0 else 1] > 0
+    return has_zero_at(put_to(rows, t), p)
+
+
+def first_rows(rows):
+    """By the form's number: the first row of the least size at which it's that, of the sizes that found goes up to."""
+    n = len(rows)
+    size = (40, 40, 10, 5)[n - 1]
+
+    def rank(row):
+        return max(abs(x) for x in row), [2 * x - 1 if x > 0 else -2 * x for x in row]
+
+    first = {}
+    for row in product(range(-size, size + 1), repeat=n):
+        number = value_at(rows, row)
+        if any(row) and (number not in first or rank(row) < rank(first[number])):
+            first[number] = row
+    return first
+
+
+def in_other_unknowns(rows, table):
+    """The form's rows when each unknown is a sum of the others' times the table's numbers."""
+    span = range(len(rows))
+    return [[sum(table[k][i] * rows[k][m] * table[m][j] for k in span for m in span) for j in span] for i in span]
+
+
+def told(rows):
+    """The numbers that tell a form."""
+    return [m for i, line in enumerate(rows) for m in line[i:]]
